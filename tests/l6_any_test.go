@@ -70,18 +70,23 @@ func TestWhatIsReadFromABlockMayBeWrittenInto(t *testing.T) {
 	}
 }
 
+// wantNothingBehind asks for noughts alone behind a list's length.
+func wantNothingBehind[T comparable](t *testing.T, what string, l []T) {
+	t.Helper()
+	var nothing T
+	for _, x := range whole(l)[len(l):] {
+		if x != nothing {
+			t.Errorf("%s: behind the list lies %s", what, shown(x))
+		}
+	}
+}
+
 func TestNothingLiesBehindWhatIsReadFromABlock(t *testing.T) {
 	for name, l := range manyRuns() {
 		items, _ := impl.ReadBlock(blockByHand(l))
-		for _, x := range whole(items)[len(items):] {
-			if x != (impl.Item{}) {
-				t.Errorf("%s: an item lies behind the run: %s", name, shown(x))
-			}
-		}
+		wantNothingBehind(t, name+", the run", items)
 		places, _ := impl.RestartsOf(blockByHand(l))
-		if slices.ContainsFunc(whole(places)[len(places):], func(n int) bool { return n != 0 }) {
-			t.Errorf("%s: a place lies behind the places: %v", name, whole(places))
-		}
+		wantNothingBehind(t, name+", the places", places)
 	}
 }
 

@@ -166,6 +166,20 @@ func TestFirstInTellsTheFirstKey(t *testing.T) {
 	}
 }
 
+// changedAt is a run whose item of a number is another, at the same place in the order.
+func changedAt(l []impl.Item, i int) []impl.Item {
+	out := slices.Clone(l)
+	if l[i].Kind == impl.KindDelete {
+		out[i].Kind = impl.KindPut
+	} else {
+		out[i].Value = "y" + l[i].Value[:len(l[i].Value)/2]
+	}
+	if out[i] == l[i] {
+		out[i].Value = "z"
+	}
+	return out
+}
+
 // Two runs that are unlike in one thing have unlike bytes.
 func TestUnlikeRunsHaveUnlikeBlocks(t *testing.T) {
 	seen := map[string]string{}
@@ -175,14 +189,8 @@ func TestUnlikeRunsHaveUnlikeBlocks(t *testing.T) {
 			t.Errorf("%s and %s have one text", name, other)
 		}
 		seen[s] = name
-		for i, x := range l {
-			changed := slices.Clone(l)
-			if x.Kind == impl.KindDelete {
-				changed[i].Kind = impl.KindPut
-			} else {
-				changed[i].Value = x.Value[len(x.Value)/2:] + "y"
-			}
-			if again, ok := impl.BlockBytes(changed); !ok || again == s && changed[i] != x {
+		for i := range l {
+			if again, ok := impl.BlockBytes(changedAt(l, i)); !ok || again == s {
 				t.Errorf("%s: item %d changed: %v, or the same bytes", name, i, ok)
 			}
 		}
